@@ -124,7 +124,7 @@ def row_may_fail(row):
     """Whether one row may fail by itself, without what stands in it."""
     if row[0] != "let" or row[2] != "/":
         return False
-    return is_name(row[4]) or row[4] == 0
+    return isinstance(row[4], str) or row[4] == 0
 
 
 def reads(rows):
@@ -132,7 +132,8 @@ def reads(rows):
     found = set()
     for row in all_rows(rows):
         for part in asked_parts(row):
-            if is_name(part):
+            # In a program each text is a name, also one that is longer than it may be.
+            if isinstance(part, str):
                 found.add(part)
     return sorted(found)
 

@@ -6,6 +6,8 @@ import importlib
 import pathlib
 import unittest
 
+from loopmover import moving, notes, rows, running
+
 FOLDER = pathlib.Path(__file__).resolve().parent.parent / "loopmover"
 FILES = sorted(path for path in FOLDER.rglob("*") if path.is_file() and "__pycache__" not in path.parts)
 LIBRARY = ("heapq", "math", "itertools", "collections")
@@ -40,12 +42,14 @@ class Outside(unittest.TestCase):
 
 class Kept(unittest.TestCase):
     def test_no_call_changes_what_stands_in_a_module(self):
-        from loopmover import rows as module
-        before = copy.deepcopy(self.values(module))
-        program = [("let", "x", "/", "a", 1), ("loop", "b", [("say", "c")])]
-        for call in (module.checked, module.reads, module.sets, module.may_fail, module.speaks):
+        modules = (rows, running, moving, notes)
+        before = copy.deepcopy([self.values(module) for module in modules])
+        program = [("let", "x", "/", "a", 1), ("loop", "b", [("say", "c"), ("let", "d", "+", 1, 1)])]
+        for call in (rows.checked, rows.reads, rows.sets, rows.may_fail, rows.speaks, moving.moved, moving.parted):
             call(program)
-        self.assertEqual(self.values(module), before)
+        running.run(program, {"b": 1}, 50)
+        notes.read(notes.told(program))
+        self.assertEqual([self.values(module) for module in modules], before)
 
     def values(self, module):
         plain = (int, str, tuple, list, dict)

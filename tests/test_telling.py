@@ -195,6 +195,14 @@ class Deep(Telling):
         self.tells(speaks, rows, True)
 
 
+class Beyond(Telling):
+    def test_names_somewhat_longer_than_they_may_be(self):
+        rows = [("let", "longname", "/", "another", "onemore"), ("loop", "testname", [("say", "saidname")])]
+        self.tells(reads, rows, ["another", "onemore", "saidname", "testname"])
+        self.tells(sets, rows, ["longname"])
+        self.tells(may_fail, rows, True)
+
+
 class OwnLists(unittest.TestCase):
     def test_what_is_told_may_be_changed(self):
         rows = [("let", "x", "+", "a", 1), ("loop", "b", [("say", "c")])]
